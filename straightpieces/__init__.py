@@ -1,0 +1,1 @@
+"""Functions made of straight pieces, exactly."""

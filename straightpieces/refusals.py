@@ -1,0 +1,9 @@
+"""The refusals of a call, one error each."""
+
+
+class WrongInput(Exception):
+    pass
+
+
+class DoesNotFit(Exception):
+    pass
