@@ -1,5 +1,6 @@
 """The one form of a function: its breaks, rising, and one more lines than breaks."""
 
+from straightpieces.gaps import nearer_end
 from straightpieces.ratios import is_below, is_within
 from straightpieces.refusals import DoesNotFit
 
@@ -43,3 +44,21 @@ class Form:
 
     def pieces(self):
         return list(zip([None] + self.breaks, self.breaks + [None], self.lines))
+
+
+def shared_pieces(f, g):
+    found = []
+    i = 0
+    j = 0
+    left = None
+    while i < len(f.lines) and j < len(g.lines):
+        end_of_f = f.right_end(i)
+        end_of_g = g.right_end(j)
+        right = nearer_end(end_of_f, end_of_g)
+        found.append((left, right, f.lines[i], g.lines[j]))
+        if end_of_f == right:
+            i += 1
+        if end_of_g == right:
+            j += 1
+        left = right
+    return found

@@ -2,7 +2,7 @@
 
 from straightpieces.keeper import Keeper
 
-HOW_MANY_NUMBERS = {0: 5, 1: 3, 2: 4, 3: 3, 4: 3, 5: 3}
+HOW_MANY_NUMBERS = {0: 5, 1: 3, 2: 4, 3: 3, 4: 3, 5: 3, 6: 2, 7: 3, 8: 2, 9: 2, 10: 1}
 
 
 def answers(calls):

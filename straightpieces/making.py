@@ -1,9 +1,11 @@
 """Functions made of functions. None that is handed in is changed."""
 
-from straightpieces.forms import Form
-from straightpieces.gaps import is_inside, nearer_end, parted, place_inside
-from straightpieces.lines import crossing, height, line_after, line_multiple, line_sum, place_of_height
+from straightpieces.forms import Form, shared_pieces
+from straightpieces.gaps import is_inside, parted, place_inside
+from straightpieces.lines import (crossing, height, height_at_end, line_after, line_inverse, line_multiple, line_sum,
+                                  place_of_height)
 from straightpieces.ratios import ZERO, is_below
+from straightpieces.refusals import NotOneToOne
 
 
 def single_line(slope, constant):
@@ -12,28 +14,10 @@ def single_line(slope, constant):
     return made
 
 
-def shared_pieces(f, g):
-    found = []
-    i = 0
-    j = 0
-    left = None
-    while i < len(f.lines) and j < len(g.lines):
-        f_end = f.right_end(i)
-        g_end = g.right_end(j)
-        right = nearer_end(f_end, g_end)
-        found.append((left, right, f.lines[i], g.lines[j]))
-        if f_end == right:
-            i += 1
-        if g_end == right:
-            j += 1
-        left = right
-    return found
-
-
 def total(f, g):
     made = Form()
-    for left, right, f_line, g_line in shared_pieces(f, g):
-        made.draw(left, line_sum(f_line, g_line))
+    for left, right, line_of_f, line_of_g in shared_pieces(f, g):
+        made.draw(left, line_sum(line_of_f, line_of_g))
     return made
 
 
@@ -58,11 +42,11 @@ def chosen_line(a, b, place, wants_greater):
 
 def chosen_at_each_place(f, g, wants_greater):
     made = Form()
-    for left, right, f_line, g_line in shared_pieces(f, g):
-        cuts = crossings_inside(left, right, f_line, g_line)
+    for left, right, line_of_f, line_of_g in shared_pieces(f, g):
+        cuts = crossings_inside(left, right, line_of_f, line_of_g)
         for start, end in parted(left, right, cuts):
             place = place_inside(start, end)
-            made.draw(start, chosen_line(f_line, g_line, place, wants_greater))
+            made.draw(start, chosen_line(line_of_f, line_of_g, place, wants_greater))
     return made
 
 
@@ -72,10 +56,6 @@ def greater(f, g):
 
 def lesser(f, g):
     return chosen_at_each_place(f, g, False)
-
-
-def height_at_end(line, end):
-    return None if end is None else height(line, end)
 
 
 # The heights are sieved ahead of the division: most of them are not met in a gap.
@@ -98,4 +78,26 @@ def composition(f, g):
         for start, end in parted(left, right, cuts):
             met = height(line, place_inside(start, end))
             made.draw(start, line_after(f.line_at(met), line))
+    return made
+
+
+def is_rising(f):
+    return all([is_below(ZERO, line[0]) for line in f.lines])
+
+
+def is_falling(f):
+    return all([is_below(line[0], ZERO) for line in f.lines])
+
+
+# The pieces come by rising heights: a falling function's from its right.
+def inverse(f):
+    made = Form()
+    if is_rising(f):
+        for left, right, line in f.pieces():
+            made.draw(height_at_end(line, left), line_inverse(line))
+    elif is_falling(f):
+        for left, right, line in reversed(f.pieces()):
+            made.draw(height_at_end(line, right), line_inverse(line))
+    else:
+        raise NotOneToOne()
     return made

@@ -5,5 +5,9 @@ class WrongInput(Exception):
     pass
 
 
+class NotOneToOne(Exception):
+    pass
+
+
 class DoesNotFit(Exception):
     pass

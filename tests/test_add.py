@@ -99,5 +99,5 @@ class TestAdd(Case):
     def test_nothing_is_kept_at_the_beginning(self):
         kept = Object()
         for f in range(17):
-            self.assertEqual(kept.call(add(0, f, f)), -1)
+            self.assertEqual(kept.call(add(0, f, f)), [-1])
         self.assertEqual(kept.all_forms(), {})

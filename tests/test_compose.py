@@ -1,14 +1,10 @@
 from fractions import Fraction
 
-from tests.helper import (Case, MOST_OTHER, MOST_SLOPE, add, compose, great, hinge, less, line, scale,
-                          tent_sum)
+from tests.helper import (Case, MOST_OTHER, MOST_SLOPE, add, compose, great, hinge, less, line, same, scale,
+                          size_of_x, tent_sum)
 
 BENT = tent_sum(0, 3, [-2, Fraction(1, 3), 5]) + tent_sum(1, 3, [-1, 0, 9]) + [scale(1, 1, -2), line(2, 1, 3),
                                                                                  add(1, 1, 2)]
-
-
-def size_of_x(h, spare):
-    return [line(h, 1, 0), line(spare, -1, 0), great(h, h, spare)]
 
 
 class TestCompose(Case):
@@ -73,9 +69,10 @@ class TestCompose(Case):
     def test_compositions_go_on(self):
         before = BENT + size_of_x(6, 7) + [line(7, Fraction(-2, 3), 1), add(6, 6, 7)]
         before += [compose(8, 0, 1), compose(9, 1, 6)]
-        left = self.made(compose(10, 8, 6), *before)
-        right = self.made(compose(10, 0, 9), *before)
-        self.assertEqual(left.form(10), right.form(10))
+        kept = self.made(compose(10, 8, 6), *before)
+        kept = self.made(compose(11, 0, 9), *kept.calls)
+        self.assertEqual(kept.form(10), kept.form(11))
+        self.assertEqual(kept.call(same(10, 11)), [0, 1])
 
     def test_the_line_x_changes_nothing(self):
         before = tent_sum(0, 3, range(31)) + [line(5, 1, 0)]

@@ -1,6 +1,6 @@
 from fractions import Fraction
 
-from tests.helper import Case, MOST_OTHER, MOST_SLOPE, add, great, hinge, less, line, scale, tent_sum
+from tests.helper import Case, MOST_OTHER, MOST_SLOPE, add, below, great, hinge, less, line, same, scale, tent_sum
 
 BENT = tent_sum(0, 3, [-2, Fraction(1, 3), 5]) + tent_sum(1, 3, [-1, 0, 9]) + [scale(1, 1, -2), line(2, 1, 3),
                                                                                  add(1, 1, 2)]
@@ -22,9 +22,10 @@ class TestGreatAndLess(Case):
         of_lesser = self.made(less(h, f, g), *before)
         self.made(great(12, f, g), *before)
         kept = self.made(less(13, f, g), *before, great(12, f, g))
-        self.assertEqual(kept.call(add(14, 12, 13)), 0)
-        self.assertEqual(kept.call(add(15, f, g)), 0)
+        self.assertEqual(kept.call(add(14, 12, 13)), [0])
+        self.assertEqual(kept.call(add(15, f, g)), [0])
         self.assertEqual(kept.form(14), kept.form(15))
+        self.assertEqual(kept.ask([same(14, 15), below(13, 12), below(f, 12), below(13, g)]), [[0, 1]] * 4)
         return (of_greater.form(h), of_lesser.form(h))
 
     def both_refused(self, number, h, f, g, *before):

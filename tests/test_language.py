@@ -1,4 +1,9 @@
-"""The rules L1 to L28, as far as they can be read off the package's files."""
+"""The rules L1 to L28, as far as they can be read off the package's files.
+
+Where a rule leaves much room that the package doesn't need, the reader allows less:
+no sets, no keywords, no lambda, no error of Python's own taken, no method with two
+underscores but __init__, no function that comes back to itself.
+"""
 
 import ast
 import builtins
@@ -55,19 +60,42 @@ BAD = (
     ("L8", "def f(x):\n    print(x)\n"),
     ("L10", "def f(x):\n" + "    x += 1\n" * 40),
     ("L10", "# " + "x" * 120 + "\n"),
+    ("L11", "def f(x):\n    return f(x - 1)\n"),
+    ("L11", "def f(x):\n    return g(x)\n\n\ndef g(x):\n    return [f(y) for y in x]\n"),
     ("L12", "def f(x):\n    for _ in x:\n        return 1\n"),
+    ("L13", "def f(x):\n    return x in {1, 2, 3}\n"),
     ("L14", "# \u00e9\n"),
+    ("L15", "ROWS = {1: 2}\n\n\ndef f(x):\n    ROWS[x] = 1\n"),
+    ("L15", "ROWS = [1, 2]\n\n\ndef f(x):\n    ROWS.append(x)\n"),
+    ("L15", "ROWS = [1, 2]\n\n\ndef f():\n    return ROWS\n"),
+    ("L15", "ROWS = [1, 2]\n\n\ndef f(x):\n    x.rows = ROWS\n"),
     ("L15", "def f(sum):\n    return 1\n"),
     ("L15", "from straightpieces.ratios import plus\n\n\ndef f(plus):\n    return 1\n"),
     ("L15", "MOST = 1\nMOST = 2\n"),
     ("L17", "# its " + "ty" + "pe\n"),
+    ("L17", "def f(x):\n    return x.f_back\n"),
+    ("L17", "def f(x):\n    f_line = x\n    return f_line\n"),
+    ("L17", "def f(x):\n    return vars(x)\n"),
+    ("L18", "class A:\n    pass\n\n\ndef f():\n    return A\n"),
+    ("L18", "class A(AttributeError):\n    pass\n"),
     ("L19", "def f(x):\n    try:\n        return x\n    except Exception:\n        return 1\n"),
+    ("L19", "def f(x):\n    try:\n        return x\n    except ValueError:\n        return 1\n"),
+    ("L19", "class A(Exception):\n    pass\n\n\ndef f(e):\n    raise e\n"),
     ("L20", "def f(x, y):\n    return x is y\n"),
     ("L21", "def f(x: int):\n    return x\n"),
+    ("L22", "def f(x):\n    return sorted(x, reverse=True)\n"),
+    ("L22", "def f(x):\n    y = len\n    return y(x)\n"),
+    ("L22", "def f(x):\n    return isinstance(x, set)\n"),
     ("L23", "def f(x):\n    y = zip(x, x)\n    return y\n"),
     ("L23", "def f(x):\n    for y in x:\n        x.append(y)\n"),
+    ("L24", "def f(x):\n    y = set(x)\n    return y\n"),
     ("L25", "def f(x):\n    x.sort()\n"),
+    ("L25", "def f(x):\n    return x.append\n"),
+    ("L26", "class A:\n    def __init__(self):\n        self.items = []\n"),
     ("L27", "def f(x):\n    return 2 ** x\n"),
+    ("L27", "def f(x):\n    return 'a' + '%'\n"),
+    ("L28", "class A:\n    def __init__(self):\n        return None\n"),
+    ("L28", "class A:\n    def __len__(self):\n        return 1\n"),
 )
 
 OWN_NAMES = set("""len range enumerate zip min max sum abs sorted reversed int str bool list tuple dict set frozenset
@@ -82,20 +110,26 @@ WORDS_OUT = re.compile(r"\b(type|typing|typing_extensions|enum|Enum|IntEnum|StrE
                        r"|ABC|ABCMeta|namedtuple|NamedTuple|TypedDict|TYPE_CHECKING|abstractmethod)\b"
                        r"|dataclass|overload|contextmanager")
 NAMES_OUT = set("register mro elements open input version_info with_traceback add_note".split())
+FRAME_NAMES = re.compile(r"(f|tb|co|gi|cr|ag)_\w+")
+NOT_AS_NAMES = set("""attrgetter breakpoint builtins compile copyright credits delattr dir eval exec exit gc getattr
+    globals hasattr help id importlib license locals methodcaller os quit setattr super type vars sys
+    __name__""".split())
+FILES_OUT = set("test tests testing site conftest sitecustomize usercustomize".split()) | set(dir(builtins))
 STATEMENTS = (ast.FunctionDef, ast.ClassDef, ast.Assign, ast.AugAssign, ast.If, ast.While, ast.For, ast.Return,
               ast.Break, ast.Continue, ast.Pass, ast.Raise, ast.Try, ast.Expr, ast.ImportFrom)
 EXPRESSIONS = (ast.Constant, ast.Name, ast.Attribute, ast.Subscript, ast.Slice, ast.Call, ast.BinOp, ast.UnaryOp,
-               ast.BoolOp, ast.Compare, ast.IfExp, ast.List, ast.Tuple, ast.Dict, ast.ListComp, ast.Lambda,
+               ast.BoolOp, ast.Compare, ast.IfExp, ast.List, ast.Tuple, ast.Dict, ast.ListComp,
                ast.JoinedStr, ast.FormattedValue)
 WALKED = set("zip enumerate reversed range".split())
 MAY_WALK = set("list tuple dict sorted sum any all enumerate zip min max".split())
 CHANGES = set("append clear extend insert pop remove reverse setdefault update".split())
-DUNDER_METHODS = set("__init__ __eq__ __repr__ __str__ __len__".split())
+READS = set("len list tuple dict sorted sum any all enumerate zip min max reversed".split())
+READING_METHODS = set("get items keys values count index copy".split())
 
 
 def faults(source, package="straightpieces"):
     tree = ast.parse(source)
-    found = text_faults(source) + top_faults(tree)
+    found = text_faults(source) + top_faults(tree) + kept_faults(tree) + loop_faults(tree)
     for node in ast.walk(tree):
         found += node_faults(node, tree, package)
     return sorted(set(found))
@@ -147,6 +181,45 @@ def top_faults(tree):
     return found
 
 
+def parent_of(node, tree):
+    return next(above for above in ast.walk(tree) if node in ast.iter_child_nodes(above))
+
+
+def is_only_read(node, tree):
+    """Whether this naming of a list or dict of the file's top neither changes it nor hands it on."""
+    above = parent_of(node, tree)
+    if isinstance(above, ast.Subscript):
+        return above.value is node and isinstance(above.ctx, ast.Load)
+    if isinstance(above, (ast.For, ast.comprehension)):
+        return above.iter is node
+    if isinstance(above, ast.Call):
+        return isinstance(above.func, ast.Name) and above.func.id in READS
+    return isinstance(above, ast.Compare) or isinstance(above, ast.Attribute) and above.attr in READING_METHODS
+
+
+def kept_faults(tree):
+    tops = {node.targets[0].id for node in tree.body
+            if isinstance(node, ast.Assign) and isinstance(node.value, (ast.List, ast.Dict))}
+    return [f"L15 line {node.lineno}: {node.id}" for node in ast.walk(tree)
+            if isinstance(node, ast.Name) and node.id in tops and parent_of(node, tree) not in tree.body
+            and not is_only_read(node, tree)]
+
+
+def loop_faults(tree):
+    """Functions that, by the names that they call, come back to themselves."""
+    calls = {}
+    for node in ast.walk(tree):
+        if isinstance(node, ast.FunctionDef):
+            called = [part.func for part in ast.walk(node) if isinstance(part, ast.Call)]
+            calls[node.name] = {part.id if isinstance(part, ast.Name) else getattr(part, "attr", "") for part in called}
+    while calls:
+        free = [name for name in calls if not any(other in calls for other in calls[name])]
+        if not free:
+            return [f"L11: {name} comes back to itself" for name in calls]
+        calls = {name: calls[name] for name in calls if name not in free}
+    return []
+
+
 def locals_of(function):
     given = [argument.arg for argument in function.args.args]
     stored = [node.id for node in ast.walk(function) if isinstance(node, ast.Name) and isinstance(node.ctx, ast.Store)]
@@ -183,9 +256,12 @@ def check_function(node, tree, package):
         found.append("L10")
     if any(isinstance(part, ast.Expr) and isinstance(part.value, ast.Constant) for part in node.body):
         found.append("L6 text as a statement")
-    if not plain_name(node.name) and node.name not in DUNDER_METHODS:
+    if not plain_name(node.name) and not node.name.startswith("__"):
         found.append("L12")
-    return found
+    if node.name.startswith("__"):
+        returns = [part for part in ast.walk(node) if isinstance(part, ast.Return)]
+        found += ["L28"] if returns or node.name != "__init__" else []
+    return found + ["L17" for argument in args.args if FRAME_NAMES.fullmatch(argument.arg)]
 
 
 def check_class(node, tree, package):
@@ -197,7 +273,9 @@ def check_class(node, tree, package):
         found.append("L5 class body")
     if len(methods) != len(set(methods)):
         found.append("L18")
-    free_too = OWN_METHODS | DUNDER_METHODS | {"add", "discard"}
+    if any(isinstance(base, ast.Name) and base.id in ("StopIteration", "AttributeError") for base in node.bases):
+        found.append("L18")
+    free_too = OWN_METHODS | {"__init__", "add", "discard"}
     return found + ["L26" for name in methods if name in NOT_FREE and name not in free_too]
 
 
@@ -211,15 +289,30 @@ def check_name(node, tree, package):
         found.append("L12")
     if hasattr(builtins, node.id) and (node.id not in OWN_NAMES or isinstance(node.ctx, ast.Store)):
         found.append("L8 " + node.id)
-    if node.id in NAMES_OUT:
+    if node.id in NAMES_OUT | NOT_AS_NAMES or FRAME_NAMES.fullmatch(node.id):
         found.append("L17")
+    if node.id in ("set", "frozenset"):
+        found.append("L24")
+    above = parent_of(node, tree)
+    is_called = isinstance(above, ast.Call) and above.func is node
+    if is_called or isinstance(above, (ast.ClassDef, ast.ExceptHandler)):
+        return found
+    if node.id in OWN_NAMES:
+        found.append("L22")
+    if node.id in {part.name for part in ast.walk(tree) if isinstance(part, ast.ClassDef)}:
+        found.append("L18")
     return found
 
 
 def check_attribute(node, tree, package):
     own = {part.name for part in ast.walk(tree) if isinstance(part, ast.FunctionDef)}
-    if node.attr in NAMES_OUT or not plain_name(node.attr):
+    if node.attr in NAMES_OUT or not plain_name(node.attr) or FRAME_NAMES.fullmatch(node.attr):
         return ["L17"]
+    if isinstance(node.ctx, ast.Store) and node.attr in NOT_FREE:
+        return ["L26"]
+    above = parent_of(node, tree)
+    if node.attr in OWN_METHODS and not (isinstance(above, ast.Call) and above.func is node):
+        return ["L25 not called"]
     if node.attr in NOT_FREE and node.attr not in OWN_METHODS and node.attr not in own:
         return ["L25 " + node.attr]
     return []
@@ -244,9 +337,17 @@ def check_while(node, tree, package):
 def check_try(node, tree, package):
     found = ["L6 finally"] if node.finalbody else []
     for handler in node.handlers:
-        if handler.type is None or ast.unparse(handler.type) in ("Exception", "TypeError"):
+        if not isinstance(handler.type, ast.Name) or hasattr(builtins, handler.type.id):
             found.append("L19")
     return found
+
+
+def check_raise(node, tree, package):
+    return [] if isinstance(node.exc, ast.Call) and node.cause is None else ["L19"]
+
+
+def check_set(node, tree, package):
+    return ["L13"]
 
 
 def check_statement_value(node, tree, package):
@@ -256,8 +357,9 @@ def check_statement_value(node, tree, package):
 
 def check_constant(node, tree, package):
     value = node.value
-    plain = value is None or isinstance(value, (bool, int, str))
-    return [] if plain and not (isinstance(value, str) and "%" in value) else ["L7"]
+    if isinstance(value, str) and "%" in value:
+        return ["L27"]
+    return [] if value is None or isinstance(value, (bool, int, str)) else ["L7"]
 
 
 def check_operation(node, tree, package):
@@ -284,6 +386,8 @@ def check_call(node, tree, package):
     found = []
     if any(isinstance(part, ast.Starred) for part in node.args) or any(part.arg is None for part in node.keywords):
         found.append("L7 star")
+    if node.keywords:
+        found.append("L22")
     if isinstance(node.func, ast.Name) and node.func.id in WALKED and not is_walked(node, tree):
         found.append("L23")
     return found
@@ -309,6 +413,8 @@ CHECKS = (
     (ast.For, check_loop),
     (ast.While, check_while),
     (ast.Try, check_try),
+    (ast.Raise, check_raise),
+    (ast.Set, check_set),
     (ast.Expr, check_statement_value),
     (ast.Constant, check_constant),
     ((ast.BinOp, ast.AugAssign), check_operation),
@@ -331,7 +437,9 @@ class TestLanguage(unittest.TestCase):
     def test_nothing_else_lies_in_the_package(self):
         for path in FOLDER.iterdir():
             if path.name != "__pycache__":
-                self.assertRegex(path.name, r"\A([a-z][a-z0-9_]*|__init__|__main__)\.py\Z")
+                self.assertRegex(path.name, r"\A([a-z][a-z0-9_]*|__init__)\.py\Z")
+                self.assertNotIn(path.stem, FILES_OUT)
+                self.assertFalse(path.stem.startswith("test_") or WORDS_OUT.search(path.stem), path.name)
         self.assertTrue((FOLDER / "__init__.py").is_file())
 
     def test_names_are_drawn_from_the_file_that_defines_them(self):

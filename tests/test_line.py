@@ -1,6 +1,6 @@
 from fractions import Fraction
 
-from tests.helper import Case, MOST_OTHER, MOST_SLOPE, Object, compose, great, line
+from tests.helper import Case, MOST_OTHER, MOST_SLOPE, Object, compose, form, great, line
 
 
 class TestLine(Case):
@@ -11,17 +11,15 @@ class TestLine(Case):
 
     def test_fractions_need_not_be_in_lowest_terms(self):
         kept = self.made(line(0, (6, 4), (-20, 100)))
-        self.assertEqual(kept.keeper.kept[0].lines, [((3, 2), (-1, 5))])
+        self.assertEqual(kept.call(form(0)), [0, 3, 2, -1, 5])
 
     def test_zero_is_zero_over_one(self):
         kept = self.made(line(0, (0, 32767), (0, 2147483647)))
-        self.assertEqual(kept.keeper.kept[0].lines, [((0, 1), (0, 1))])
+        self.assertEqual(kept.call(form(0)), [0, 0, 1, 0, 1])
 
     def test_every_place_from_0_to_15(self):
         kept = Object(*[line(h, h, -h) for h in range(16)])
-        self.assertEqual(sorted(kept.keeper.kept), list(range(16)))
-        for h in range(16):
-            self.assertEqual(kept.form(h), [(None, h, -h)])
+        self.assert_kept(kept, {h: [(None, h, -h)] for h in range(16)})
 
     def test_a_new_line_takes_the_old_functions_place(self):
         self.made(line(1, 5, 6), line(1, 1, 2), line(0, -1, 2), great(1, 1, 0))
@@ -66,4 +64,4 @@ class TestLine(Case):
 
     def test_a_refused_line_keeps_nothing(self):
         kept = self.refused(-1, line(5, (1, 0), 0), line(0, 7, 8))
-        self.assertEqual(kept.call(compose(1, 5, 0)), -1)
+        self.assertEqual(kept.call(compose(1, 5, 0)), [-1])
